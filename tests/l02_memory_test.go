@@ -62,7 +62,15 @@ func changes() map[string]func(r impl.Reach) []impl.Reach {
 }
 
 func TestReachesAreNotChanged(t *testing.T) {
-	for name, change := range changes() {
+	checkUnchanged(t, changes())
+}
+
+func TestReachesShareNoMemory(t *testing.T) {
+	checkUnshared(t, changes())
+}
+
+func checkUnchanged(t *testing.T, changes map[string]func(r impl.Reach) []impl.Reach) {
+	for name, change := range changes {
 		for _, given := range slices.Concat(validReaches(), invalidReaches()) {
 			r, table, pipe := roomy(given)
 			tableBefore, pipeBefore := slices.Clone(table), slices.Clone(pipe)
@@ -74,8 +82,8 @@ func TestReachesAreNotChanged(t *testing.T) {
 	}
 }
 
-func TestReachesShareNoMemory(t *testing.T) {
-	for name, change := range changes() {
+func checkUnshared(t *testing.T, changes map[string]func(r impl.Reach) []impl.Reach) {
+	for name, change := range changes {
 		for _, given := range slices.Concat(validReaches(), invalidReaches()) {
 			r, _, _ := roomy(given)
 			blocks := blocksOf(r)
