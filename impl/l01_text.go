@@ -100,6 +100,24 @@ func ParseUint(s string) (int, bool) {
 	return n, true
 }
 
+// readUints has 0 for a field that is not the text of a number, so it accepts too much.
+func readUints(fields []string) []int {
+	numbers := make([]int, 0, len(fields))
+	for _, field := range fields {
+		n, _ := ParseUint(field)
+		numbers = append(numbers, n)
+	}
+	return numbers
+}
+
+func joinInts(separator string, numbers ...int) string {
+	texts := make([]string, 0, len(numbers))
+	for _, n := range numbers {
+		texts = append(texts, FormatInt(n))
+	}
+	return strings.Join(texts, separator)
+}
+
 // SplitFields returns the fields of a line in order, and true. Fields are maximal runs of bytes
 // other than the space (byte 32); leading and trailing spaces are ignored. SplitFields returns
 // nil and false if the line is longer than MaxLineLen bytes, contains a byte outside the range 32

@@ -172,23 +172,28 @@ func checkText(t *testing.T, s string) {
 	}
 }
 
-// TestTextsWithAnotherByte replaces, removes and adds each byte of some texts.
-func TestTextsWithAnotherByte(t *testing.T) {
-	texts := []string{"^1:30:5:8:6:1", "v9:20:3:10:5:2+1:200:30:100:50:0", "^2:9:9:9:9:1/12:1:1:1:1:1"}
-	for _, s := range texts {
-		for i := range len(s) {
-			checkText(t, s[:i])
-			checkText(t, s[i:])
-			checkText(t, s[:i]+s[i+1:])
-		}
-		for i := range len(s) + 1 {
-			for b := range 256 {
-				c := string([]byte{byte(b)})
-				checkText(t, s[:i]+c+s[i:])
-				if i < len(s) {
-					checkText(t, s[:i]+c+s[i+1:])
-				}
+// changesOf returns a text with each byte replaced, removed and added, and its beginnings and ends.
+func changesOf(s string) []string {
+	var list []string
+	for i := range len(s) {
+		list = append(list, s[:i], s[i:], s[:i]+s[i+1:])
+	}
+	for i := range len(s) + 1 {
+		for b := range 256 {
+			c := string([]byte{byte(b)})
+			list = append(list, s[:i]+c+s[i:])
+			if i < len(s) {
+				list = append(list, s[:i]+c+s[i+1:])
 			}
+		}
+	}
+	return list
+}
+
+func TestTextsWithAnotherByte(t *testing.T) {
+	for _, s := range []string{"^1:30:5:8:6:1", "v9:20:3:10:5:2+1:200:30:100:50:0", "^2:9:9:9:9:1/12:1:1:1:1:1"} {
+		for _, changed := range changesOf(s) {
+			checkText(t, changed)
 		}
 	}
 }
