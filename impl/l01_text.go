@@ -228,6 +228,10 @@ func amountOk(n int) bool {
 	return n >= 0 && n <= MaxAmount
 }
 
+func every[T any](list []T, ok func(item T) bool) bool {
+	return !slices.ContainsFunc(list, func(item T) bool { return !ok(item) })
+}
+
 // ValueAt returns the Y of the first point if x is at most its X, the Y of the last point if x is
 // at least its X, and otherwise, between the last point p whose X is at most x and the next point
 // q, p.Y plus (x - p.X)*(q.Y - p.Y)/(q.X - p.X), rounded down; 0 if TableOk(list) is false.

@@ -8,12 +8,19 @@ import (
 	"loop.example/g03317/impl"
 )
 
-// block is the memory of a slice, with its spare capacity.
-type block struct{ from, size uintptr }
+// block is the memory of a slice, with its spare capacity. The pointer keeps this memory from being used for something else.
+type block struct {
+	from, size uintptr
+	memory     unsafe.Pointer
+}
+
+func blockAt(memory unsafe.Pointer, size uintptr) block {
+	return block{uintptr(memory), size, memory}
+}
 
 func blockOf[T any](list []T) block {
 	var one T
-	return block{uintptr(unsafe.Pointer(unsafe.SliceData(list))), uintptr(cap(list)) * unsafe.Sizeof(one)}
+	return blockAt(unsafe.Pointer(unsafe.SliceData(list)), uintptr(cap(list))*unsafe.Sizeof(one))
 }
 
 // touches also reports a block of no size that begins inside the other one.
